@@ -1,0 +1,1 @@
+"""Modeyard: works that turn goods into goods, and all their balanced ways."""
