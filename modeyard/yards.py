@@ -1,6 +1,7 @@
 """Names, works and yards, and what a way leaves of a yard's goods."""
 
 from modeyard.errors import NoAmount, NoGood, NoName, NoWay, TooMany
+from modeyard.lines import sum_of_products
 from modeyard.ratios import is_whole
 
 MOST_LETTERS = 8
@@ -73,10 +74,6 @@ def amount_of(good, parts):
 
 def change_of(work, goods):
     return [amount_of(good, work[2]) - amount_of(good, work[1]) for good in goods]
-
-
-def sum_of_products(numbers, others):
-    return sum([number * other for number, other in zip(numbers, others)])
 
 
 class Yard:

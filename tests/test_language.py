@@ -65,6 +65,19 @@ def top_names(tree):
     return names + [target.id for node in tree.body if isinstance(node, ast.Assign) for target in node.targets]
 
 
+def inner_names(tree):
+    """Parameters and locals."""
+    told = []
+    for node in ast.walk(tree):
+        if isinstance(node, (ast.FunctionDef, ast.Lambda)):
+            told += [name for part in ast.iter_child_nodes(node) for name in bound_names(part)]
+    return told
+
+
+def imported_names(tree):
+    return [part.name for node in tree.body if isinstance(node, ast.ImportFrom) for part in node.names]
+
+
 def classes(tree):
     return [node for node in tree.body if isinstance(node, ast.ClassDef)]
 
@@ -181,10 +194,15 @@ class NameTest(unittest.TestCase):
     def test_read_names(self):
         for name, tree in trees().items():
             bound = set(bound_names(tree))
-            imported = {part.name for node in tree.body if isinstance(node, ast.ImportFrom) for part in node.names}
+            imported = set(imported_names(tree))
             for node in ast.walk(tree):
                 if isinstance(node, ast.Name) and node.id not in bound | imported:
                     self.assertIn(node.id, OWN_NAMES, (name, node.lineno))
+
+    def test_parameters_and_locals_have_names_of_their_own(self):
+        for name, tree in trees().items():
+            taken = imported_names(tree) + top_names(tree)
+            self.assertEqual(set(inner_names(tree)) & set(taken), set(), name)
 
     def test_attributes(self):
         methods = [one for tree in trees().values() for one in method_names(tree)]

@@ -3,14 +3,11 @@
 import copy
 import unittest
 
-from modeyard import errors
 from modeyard.errors import NoAmount, NoGood, NoName, NoWay, TooMany, YardError
 from modeyard.yards import Yard, is_name
+from reckon import REFUSALS
+from some_yards import bakery
 
-REFUSALS = [
-    errors.NoRatio, errors.TooMany, errors.NoName, errors.NoGood, errors.NoAmount, errors.NoWay,
-    errors.NoFit, errors.NoBalance, errors.NoWeights, errors.NoWork, errors.NoText, errors.NoRow,
-]
 TEN = ["a", "b", "c", "d", "e", "f", "g", "h", "i", "j"]
 ELEVEN = TEN + ["k"]
 THIRTY = 10 ** 30 - 1
@@ -23,19 +20,6 @@ WRONG_NAMES = [
 
 def rest(name):
     return (name, [], [])
-
-
-def bakery():
-    return Yard(
-        ["corn", "flour", "water", "bread"],
-        [
-            ("bring", [], [("corn", 1)]),
-            ("mill", [("corn", 2)], [("flour", 3)]),
-            ("well", [], [("water", 5)]),
-            ("oven", [("water", 1), ("flour", 3)], [("bread", 2)]),
-            ("send", [("bread", 1)], []),
-        ],
-    )
 
 
 class NameTest(unittest.TestCase):
