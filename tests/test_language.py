@@ -22,7 +22,8 @@ TWO_UNDERSCORES = "__init__ __eq__ __repr__ __str__ __len__".split()
 NODES = """Module ImportFrom alias FunctionDef arguments arg ClassDef Return Assign AugAssign For While If Raise Try
 ExceptHandler Expr Pass Break Continue BoolOp And Or BinOp Add Sub Mult FloorDiv Mod Pow LShift RShift BitOr BitXor
 BitAnd UnaryOp Invert Not UAdd USub Lambda IfExp Dict List Tuple ListComp comprehension Compare Eq NotEq Lt LtE Gt
-GtE Is IsNot In NotIn Call keyword JoinedStr FormattedValue Constant Attribute Subscript Slice Name Load Store""".split()
+GtE Is IsNot In NotIn Call keyword JoinedStr FormattedValue Constant Attribute Subscript Slice Name Load
+Store""".split()
 NOWHERE = """register mro elements open input version_info with_traceback add_note format format_map attrgetter
 breakpoint compile copyright credits delattr dir eval exec exit gc getattr globals hasattr help id importlib
 license locals methodcaller os quit setattr super sys vars""".split()
@@ -178,6 +179,71 @@ class FormTest(unittest.TestCase):
             for sign, side in zip(node.ops, node.comparators):
                 if isinstance(sign, (ast.Is, ast.IsNot)):
                     self.assertIn(ast.unparse(side), ["None", "True", "False"], place)
+
+
+def with_parents(tree):
+    """Each node with the nodes that it stands in, the nearest one first."""
+    told, left = [], [(tree, ())]
+    while left:
+        node, above = left.pop()
+        told.append((node, above))
+        left += [(part, (node,) + above) for part in ast.iter_child_nodes(node)]
+    return told
+
+
+def called(node):
+    """The name or the method that is called."""
+    if not isinstance(node, ast.Call):
+        return None
+    return node.func.id if isinstance(node.func, ast.Name) else getattr(node.func, "attr", None)
+
+
+class UseTest(unittest.TestCase):
+    def each(self):
+        return [(name, node, above) for name, tree in trees().items() for node, above in with_parents(tree)]
+
+    def test_exponents_are_written(self):
+        for name, node, above in self.each():
+            if isinstance(node, ast.BinOp) and isinstance(node.op, ast.Pow):
+                self.assertIsInstance(node.right, ast.Constant, (name, node.lineno))
+                self.assertIn(node.right.value, range(65), (name, node.lineno))
+
+    def test_sets_are_not_kept(self):
+        for name, node, above in self.each():
+            if called(node) in ("set", "frozenset"):
+                on_the_spot = isinstance(above[0], (ast.Compare, ast.BinOp)) or called(above[0]) in ("len", "sorted")
+                self.assertTrue(on_the_spot, (name, node.lineno))
+
+    def test_walks_are_on_the_spot(self):
+        walked = ("zip", "enumerate", "reversed", "range", "items", "keys", "values")
+        takers = ("list", "tuple", "dict", "sorted", "sum", "any", "all", "enumerate", "zip", "min", "max", "join")
+        for name, node, above in self.each():
+            if called(node) in walked:
+                on_the_spot = isinstance(above[0], (ast.For, ast.comprehension)) or called(above[0]) in takers
+                self.assertTrue(on_the_spot, (name, node.lineno))
+
+    def test_keywords(self):
+        own = ("key", "reverse", "default", "start", "strict")
+        for name, node, above in self.each():
+            if isinstance(node, ast.Call) and called(node) in dir(builtins) + OWN_METHODS:
+                self.assertLessEqual({word.arg for word in node.keywords}, set(own), (name, node.lineno))
+
+    def test_lists_and_dicts_of_a_files_top_are_only_read(self):
+        for name, tree in trees().items():
+            kept = [node.targets[0].id for node in tree.body
+                    if isinstance(node, ast.Assign) and isinstance(node.value, (ast.List, ast.Dict))]
+            for node, above in with_parents(tree):
+                if isinstance(node, ast.Name) and node.id in kept and isinstance(node.ctx, ast.Load):
+                    by_index = isinstance(above[0], ast.Subscript) and isinstance(above[0].ctx, ast.Load)
+                    read = isinstance(above[0], (ast.Compare, ast.For, ast.comprehension)) or called(above[0]) == "len"
+                    self.assertTrue(by_index or read, (name, node.lineno))
+
+    def test_lists_and_dicts_of_a_files_top_hold_none(self):
+        for name, tree in trees().items():
+            for node in tree.body:
+                if isinstance(node, ast.Assign) and isinstance(node.value, (ast.List, ast.Dict)):
+                    inner = [part for part in ast.walk(node.value) if isinstance(part, (ast.List, ast.Dict))]
+                    self.assertEqual(inner, [node.value], name)
 
 
 class NameTest(unittest.TestCase):
